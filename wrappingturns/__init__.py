@@ -1,0 +1,1 @@
+"""How often loops over wrapping words turn, and what their words are then."""
