@@ -2,27 +2,9 @@ import random
 import time
 import unittest
 
-from support import GREATEST, ask, at, chain, shows, sum_of, width, words_by_turning
+from support import GREATEST, ask, at, chain, shows, sum_of, turned_far, width, words_by_turning
 
 SIZE_32 = 2 ** 32
-
-
-def multiplied(first, second, size):
-    columns = list(zip(*second))
-    return [[sum(one * other for one, other in zip(row, column)) % size for column in columns] for row in first]
-
-
-def turned_far(words, count, size):
-    """All words after so many turns: a turn as a square of numbers, doubled again and again."""
-    places = range(len(words))
-    power = [[1 if column in (row, row + 1) else 0 for column in places] for row in places]
-    result = [[1 if column == row else 0 for column in places] for row in places]
-    while count:
-        if count % 2:
-            result = multiplied(result, power, size)
-        power = multiplied(power, power, size)
-        count //= 2
-    return [sum(one * word for one, word in zip(row, words)) % size for row in result]
 
 
 class AtSumTest(unittest.TestCase):
@@ -61,7 +43,7 @@ class AtSumTest(unittest.TestCase):
 
     def test_up_to_the_greatest_number_of_turns(self):
         source = random.Random(8)
-        for case in range(60):
+        for case in range(30):
             words = [source.choice((GREATEST, source.randrange(SIZE_32))) for place in range(7)] + [GREATEST]
             for k in (GREATEST, GREATEST - 1, 2 ** 31, source.randrange(SIZE_32)):
                 found = ask(width(32), chain(6, words), at(6, k), sum_of(6, k))
